@@ -1,0 +1,1 @@
+"""Two sums of products of unlike letters by the fewest products."""
