@@ -10,7 +10,6 @@ HERE = os.path.dirname(os.path.abspath(__file__))
 FOLDER = os.path.join(os.path.dirname(HERE), "sparedproducts")
 BUILTINS = {"len", "range", "enumerate", "zip", "min", "max", "sum", "abs", "sorted", "int", "str", "bool", "list",
             "tuple", "dict", "set", "isinstance", "any", "all", "divmod", "iter", "ValueError"}
-LISTED = {"any", "all", "min", "max", "sum", "sorted"}
 WORDS = ("type", "typing", "enum", "Enum", "Flag", "Generic", "Protocol", "ABC", "namedtuple", "dataclass", "overload",
          "contextmanager", "register", "mro", "elements", "open", "input", "law", "_wall")
 METHODS = {"append", "items", "values", "keys", "get"}
