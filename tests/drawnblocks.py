@@ -1,7 +1,7 @@
 """Drawn blocks of all kinds, and what several test files ask of blocks."""
 
-from helpers import drawn_invertible, drawn_number, most_sides
-from sparedproducts.blocks import Blocks
+from helpers import all_figures, drawer, drawn_invertible, drawn_number, most_sides
+from sparedproducts.blocks import Blocks, blocks_pair
 from sparedproducts.polys import poly_times
 
 DETERMINED = ("idle_rows", "idle_columns", "lying", "standing", "polys", "mix")
@@ -32,6 +32,8 @@ def drawn_row_of_polys(figures, draw):
     polys, last = [], (figures.one,)
     for _ in range(draw.choice((0, 0, 1, 1, 2, 3, 5))):
         factor = tuple(drawn_number(figures, draw) for _ in range(draw.choice((0, 0, 1, 1, 2, 3)))) + (figures.one,)
+        if len(last) + len(factor) > 13:
+            return tuple(polys)
         last = poly_times(figures, last, factor)
         if len(last) > 1:
             polys.append(last)
@@ -58,3 +60,12 @@ def drawn_turned(pair, draw):
 
 def drawn_mixed(pair, draw):
     return pair.mixed(drawn_invertible(pair.figures, draw, 2))
+
+
+def drawn_kinds(seed, many):
+    """Over all figures drawn blocks and the pair of them behind a mix and a turning."""
+    draw = drawer(seed)
+    for figures in all_figures():
+        for _ in range(many):
+            due = drawn_blocks(figures, draw)
+            yield figures, due, drawn_turned(drawn_mixed(blocks_pair(figures, due), draw), draw)

@@ -12,8 +12,9 @@ BUILTINS = {"len", "range", "enumerate", "zip", "min", "max", "sum", "abs", "sor
             "tuple", "dict", "set", "isinstance", "any", "all", "divmod", "iter", "ValueError"}
 WORDS = ("type", "typing", "enum", "Enum", "Flag", "Generic", "Protocol", "ABC", "namedtuple", "dataclass", "overload",
          "contextmanager", "register", "mro", "elements", "open", "input", "law", "_wall")
-METHODS = {"append", "items", "values", "keys", "get"}
-UNDERSCORED = {"__init__", "__eq__", "__len__", "__iter__"}
+METHODS = {"append", "insert", "items", "values", "keys", "get"}
+GENERATORS = {"lying_programs"}
+UNDERSCORED = {"__init__", "__eq__", "__len__", "__iter__", "__call__"}
 STATEMENTS = (ast.Expr, ast.Assign, ast.AugAssign, ast.If, ast.While, ast.For, ast.Return, ast.Break, ast.Continue,
               ast.Pass, ast.Raise, ast.Try, ast.FunctionDef, ast.ClassDef, ast.ImportFrom)
 
@@ -35,6 +36,8 @@ def names_bound(tree):
         elif isinstance(node, ast.Name) and isinstance(node.ctx, ast.Store):
             yield node.id
         elif isinstance(node, (ast.FunctionDef, ast.ClassDef)):
+            yield node.name
+        elif isinstance(node, ast.ExceptHandler) and node.name is not None:
             yield node.name
 
 
@@ -70,7 +73,7 @@ class FormTest(unittest.TestCase):
     def test_statements(self):
         for name, node in self.nodes(ast.stmt):
             self.assertIsInstance(node, STATEMENTS, (name, node.lineno))
-        for name, node in self.nodes(ast.GeneratorExp, ast.SetComp, ast.Lambda, ast.Yield, ast.Starred, ast.Set,
+        for name, node in self.nodes(ast.GeneratorExp, ast.SetComp, ast.Lambda, ast.Starred, ast.Set,
                                      ast.Div, ast.JoinedStr, ast.AnnAssign, ast.NamedExpr, ast.Pow):
             self.fail((name, node.lineno if hasattr(node, "lineno") else node))
         for name, node in self.nodes(ast.Constant):
@@ -141,6 +144,21 @@ class FormTest(unittest.TestCase):
                 if isinstance(node, ast.Name) and isinstance(node.ctx, ast.Load) and node.id not in known:
                     self.assertIn(node.id, BUILTINS, (name, node.lineno))
 
+    def test_generators_are_iterated_at_once(self):
+        found = {node.name for _, node in self.nodes(ast.FunctionDef)
+                 if any(isinstance(inner, (ast.Yield, ast.YieldFrom)) for inner in ast.walk(node))}
+        self.assertEqual(found, GENERATORS)
+        for name, tree in self.trees.items():
+            loops = [node.iter.func for node in ast.walk(tree)
+                     if isinstance(node, ast.For) and isinstance(node.iter, ast.Call)]
+            for node in ast.walk(tree):
+                if isinstance(node, ast.Name) and node.id in GENERATORS:
+                    self.assertIn(node, loops, name)
+
+    def test_objects_that_are_called_have_a_name(self):
+        for name, node in self.nodes(ast.Call):
+            self.assertIsInstance(node.func, (ast.Name, ast.Attribute), (name, node.lineno))
+
     def test_methods_and_attributes(self):
         attributes = {node.attr for _, node in self.nodes(ast.Attribute) if isinstance(node.ctx, ast.Store)}
         methods = {node.name for _, kind in self.nodes(ast.ClassDef) for node in kind.body
@@ -154,7 +172,7 @@ class FormTest(unittest.TestCase):
 
     def test_handlers_name_own_errors(self):
         for name, node in self.nodes(ast.ExceptHandler):
-            self.assertEqual(node.type.id, "BadTable", name)
+            self.assertIn(node.type.id, ("BadTable", "BadPoints"), name)
 
 
 if __name__ == "__main__":

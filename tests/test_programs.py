@@ -2,33 +2,12 @@
 
 import unittest
 
-from helpers import ALL, PRIMES, all_figures, drawer, drawn_invertible, drawn_number, long_number
-from helpers import most_sides, numbers, pair, plain_times, raised
+from drawnprograms import any_program, drawn_row, sum_of
+from helpers import ALL, PRIMES, all_figures, drawer, drawn_invertible, long_number, numbers, pair, plain_times
+from helpers import raised
 from sparedproducts.figures import Figures
 from sparedproducts.pairs import Pair, zero_pair
 from sparedproducts.programs import Cell, Program, is_right, letters_where_wrong, wrong_at
-
-
-def drawn_row(figures, draw, many, filled=0.8):
-    return tuple(drawn_number(figures, draw) if draw.random() < filled else figures.zero for _ in range(many))
-
-
-def drawn_program(figures, draw, rows, columns, many, filled=0.8):
-    return Program(figures, rows, columns, [
-        (drawn_row(figures, draw, rows, filled), drawn_row(figures, draw, columns, filled))
-        + drawn_row(figures, draw, 2, filled) for _ in range(many)])
-
-
-def any_program(figures, draw, filled=0.8):
-    rows, columns = draw.randint(1, most_sides(figures)), draw.randint(1, most_sides(figures))
-    return drawn_program(figures, draw, rows, columns, draw.randint(0, 8), filled)
-
-
-def sum_of(figures, entries):
-    total = figures.zero
-    for number in entries:
-        total = figures.plus(total, number)
-    return total
 
 
 def complex_program(figures):
