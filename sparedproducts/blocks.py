@@ -47,10 +47,15 @@ def standing_pair(figures, size):
     return lying_pair(figures, size).flipped()
 
 
+def check_square_poly(figures, poly):
+    """A poly that a square block may have as a pair, as a tuple."""
+    high = figures.prime if figures.prime in (2, 3) else MOST_DEGREE
+    return check_led_poly(figures, poly, 1, high)
+
+
 def square_pair(figures, poly):
     """The square block of the poly as a pair."""
-    high = figures.prime if figures.prime in (2, 3) else MOST_DEGREE
-    poly = check_led_poly(figures, poly, 1, high)
+    poly = check_square_poly(figures, poly)
     return Pair(figures, unit_table(figures, len(poly) - 1), last_column(figures, poly))
 
 

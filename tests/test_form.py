@@ -13,7 +13,7 @@ BUILTINS = {"len", "range", "enumerate", "zip", "min", "max", "sum", "abs", "sor
 WORDS = ("type", "typing", "enum", "Enum", "Flag", "Generic", "Protocol", "ABC", "namedtuple", "dataclass", "overload",
          "contextmanager", "register", "mro", "elements", "open", "input", "law", "_wall")
 METHODS = {"append", "insert", "items", "values", "keys", "get"}
-GENERATORS = {"lying_programs"}
+GENERATORS = {"lying_programs", "filter_stretches"}
 UNDERSCORED = {"__init__", "__eq__", "__len__", "__iter__", "__call__"}
 STATEMENTS = (ast.Expr, ast.Assign, ast.AugAssign, ast.If, ast.While, ast.For, ast.Return, ast.Break, ast.Continue,
               ast.Pass, ast.Raise, ast.Try, ast.FunctionDef, ast.ClassDef, ast.ImportFrom)
