@@ -4,7 +4,7 @@ from sparedproducts.errors import BadPair, BadProgram, Unlike
 from sparedproducts.pairs import Pair, check_mix, check_turning
 from sparedproducts.ratios import is_sequence, is_whole
 from sparedproducts.solving import column_led, flipped_table, row_scaled, row_sum, summed_products
-from sparedproducts.solving import unit_row, zero_row
+from sparedproducts.solving import table_times, unit_row, zero_row
 from sparedproducts.tables import MOST_ROWS, all_are_numbers, check_letters
 
 MOST_PRODUCTS = 30
@@ -74,12 +74,7 @@ class Program:
 
     def pair(self):
         """The pair that the program is right for."""
-        first = zero_table(self.figures, self.rows, self.columns)
-        second = first
-        for left, right, one, other in self.products:
-            first = table_with_product(self.figures, first, one, left, right)
-            second = table_with_product(self.figures, second, other, left, right)
-        return Pair(self.figures, first, second)
+        return Pair(self.figures, answer_table(self, 2), answer_table(self, 3))
 
     def led(self, left, right):
         """The program that is right for the turned pair."""
@@ -109,15 +104,14 @@ class Program:
         return Program(self.figures, self.rows, self.columns, products)
 
 
-def zero_table(figures, rows, columns):
-    """The table of zeros of that size."""
-    return (zero_row(figures, columns),) * rows
-
-
-def table_with_product(figures, table, number, left, right):
-    """The table and number times left times right, cell by cell."""
-    return tuple([row_sum(figures, row, row_scaled(figures, figures.times(number, entry), right))
-                  for row, entry in zip(table, left)])
+def answer_table(program, place):
+    """The sum of the tables of all products, each times the number at that place of the product."""
+    figures = program.figures
+    if len(program) == 0:
+        return (zero_row(figures, program.columns),) * program.rows
+    # One product of tables brings long fractions to lowest terms once for each cell, not at each step.
+    left = flipped_table([row_scaled(figures, entry[place], entry[0]) for entry in program])
+    return table_times(figures, left, [entry[1] for entry in program])
 
 
 def first_not_zero(figures, row):

@@ -80,13 +80,18 @@ def times_all(program, poly, couples, numbers):
     return times_one_by_one(program, couples, numbers)
 
 
+def check_times(times):
+    """How many times a deed may be done."""
+    if not is_whole(times, 0, MOST_TIMES):
+        raise BadTimes()
+
+
 def power_by_remainder(program, poly, taps, times):
     """The remainder of a power of the couple's poly."""
     figures = program.figures
     poly = check_square_poly(figures, poly)
     taps = check_letters(figures, taps, 2, "taps")
-    if not is_whole(times, 0, MOST_TIMES):
-        raise BadTimes()
+    check_times(times)
     check_remainder(program, poly)
     return times_one_by_one(program, (taps,) * times, unit_row(figures, len(poly) - 1, 0))
 

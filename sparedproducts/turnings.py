@@ -19,14 +19,20 @@ def same_size(pair, other):
     return pair.rows == other.rows and pair.columns == other.columns
 
 
-def unlike_word(one, other):
-    """The first word in which the blocks of two pairs differ, or None."""
+def sizes_word(one, other):
+    """The first word in which the blocks of two pairs differ apart from the mix and the polys, or None."""
     if one.idle_rows != other.idle_rows or one.idle_columns != other.idle_columns:
         return "idle"
     if one.lying != other.lying:
         return "lying"
-    if one.standing != other.standing:
-        return "standing"
+    return "standing" if one.standing != other.standing else None
+
+
+def unlike_word(one, other):
+    """The first word in which the blocks of two pairs differ, or None."""
+    word = sizes_word(one, other)
+    if word is not None:
+        return word
     if one.mix != other.mix:
         return "mix"
     return "polys" if one.polys != other.polys else None

@@ -9,11 +9,13 @@ import unittest
 HERE = os.path.dirname(os.path.abspath(__file__))
 FOLDER = os.path.join(os.path.dirname(HERE), "sparedproducts")
 BUILTINS = {"len", "range", "enumerate", "zip", "min", "max", "sum", "abs", "sorted", "int", "str", "bool", "list",
-            "tuple", "dict", "set", "isinstance", "any", "all", "divmod", "iter", "ValueError"}
+            "tuple", "dict", "set", "isinstance", "any", "all", "divmod", "iter", "reversed", "ValueError"}
 WORDS = ("type", "typing", "enum", "Enum", "Flag", "Generic", "Protocol", "ABC", "namedtuple", "dataclass", "overload",
          "contextmanager", "register", "mro", "elements", "open", "input", "law", "_wall")
-METHODS = {"append", "insert", "items", "values", "keys", "get"}
-GENERATORS = {"lying_programs", "filter_stretches"}
+METHODS = {"append", "insert", "items", "values", "keys", "get", "count", "setdefault", "join", "split", "startswith",
+           "partition", "zfill"}
+GENERATORS = {"lying_programs", "filter_stretches", "all_cut_outs"}
+PROPERTIES = set()
 UNDERSCORED = {"__init__", "__eq__", "__len__", "__iter__", "__call__"}
 STATEMENTS = (ast.Expr, ast.Assign, ast.AugAssign, ast.If, ast.While, ast.For, ast.Return, ast.Break, ast.Continue,
               ast.Pass, ast.Raise, ast.Try, ast.FunctionDef, ast.ClassDef, ast.ImportFrom)
@@ -66,7 +68,7 @@ class FormTest(unittest.TestCase):
     def test_functions_are_short_and_told(self):
         for name, node in self.nodes(ast.FunctionDef):
             self.assertLessEqual(node.end_lineno - node.lineno + 1, 40, (name, node.name))
-            self.assertFalse(node.decorator_list, (name, node.name))
+            self.assertEqual([kind.id for kind in node.decorator_list], ["property"] * (node.name in PROPERTIES))
             if not node.name.startswith("_"):
                 self.assertTrue(ast.get_docstring(node), (name, node.name))
 
@@ -74,8 +76,11 @@ class FormTest(unittest.TestCase):
         for name, node in self.nodes(ast.stmt):
             self.assertIsInstance(node, STATEMENTS, (name, node.lineno))
         for name, node in self.nodes(ast.GeneratorExp, ast.SetComp, ast.Lambda, ast.Starred, ast.Set,
-                                     ast.Div, ast.JoinedStr, ast.AnnAssign, ast.NamedExpr, ast.Pow):
+                                     ast.Div, ast.JoinedStr, ast.AnnAssign, ast.NamedExpr):
             self.fail((name, node.lineno if hasattr(node, "lineno") else node))
+        for name, node in self.nodes(ast.BinOp):
+            if isinstance(node.op, ast.Pow):
+                self.assertLessEqual(node.right.value, 64, name)
         for name, node in self.nodes(ast.Constant):
             self.assertNotIsInstance(node.value, (float, complex, bytes), name)
 
@@ -142,7 +147,7 @@ class FormTest(unittest.TestCase):
                                               for alias in node.names}
             for node in ast.walk(tree):
                 if isinstance(node, ast.Name) and isinstance(node.ctx, ast.Load) and node.id not in known:
-                    self.assertIn(node.id, BUILTINS, (name, node.lineno))
+                    self.assertIn(node.id, BUILTINS | ({"property"} if name == "bench.py" else set()), (name, node.lineno))
 
     def test_generators_are_iterated_at_once(self):
         found = {node.name for _, node in self.nodes(ast.FunctionDef)
@@ -172,7 +177,10 @@ class FormTest(unittest.TestCase):
 
     def test_handlers_name_own_errors(self):
         for name, node in self.nodes(ast.ExceptHandler):
-            self.assertIn(node.type.id, ("BadTable", "BadPoints"), name)
+            kinds = node.type.elts if isinstance(node.type, ast.Tuple) else [node.type]
+            for kind in kinds:
+                self.assertIn(kind.id, self.sources["errors.py"])
+                self.assertNotIn(kind.id, ("ValueError", "PairError"), name)
 
 
 if __name__ == "__main__":
