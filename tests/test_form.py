@@ -14,8 +14,8 @@ WORDS = ("type", "typing", "enum", "Enum", "Flag", "Generic", "Protocol", "ABC",
          "contextmanager", "register", "mro", "elements", "open", "input", "law", "_wall")
 METHODS = {"append", "insert", "items", "values", "keys", "get", "count", "setdefault", "join", "split", "startswith",
            "partition", "zfill"}
-GENERATORS = {"lying_programs", "filter_stretches", "all_cut_outs"}
-PROPERTIES = set()
+GENERATORS = {"lying_programs", "filter_stretches", "all_cut_outs", "fewest_lots"}
+PROPERTIES = {"log"}
 UNDERSCORED = {"__init__", "__eq__", "__len__", "__iter__", "__call__"}
 STATEMENTS = (ast.Expr, ast.Assign, ast.AugAssign, ast.If, ast.While, ast.For, ast.Return, ast.Break, ast.Continue,
               ast.Pass, ast.Raise, ast.Try, ast.FunctionDef, ast.ClassDef, ast.ImportFrom)
