@@ -260,10 +260,10 @@ def thinned_code(code):
     told = [None if value is None else firsts[value] for value in told_values(code, values)]
     reached = reached_values(code, firsts, told)
     places = {letter: letter for letter in range(ahead)}
-    steps = []
+    made = []
     for index, step in enumerate(code.steps):
         if ahead + index in reached:
-            steps.append(led_step(led_step(step, firsts), places))
-            places[ahead + index] = ahead + len(steps) - 1
+            made.append(led_step(led_step(step, firsts), places))
+            places[ahead + index] = ahead + len(made) - 1
     told = [None if value is None else places[value] for value in told]
-    return Code(code.figures, code.rows, code.columns, steps, told)
+    return Code(code.figures, code.rows, code.columns, made, told)

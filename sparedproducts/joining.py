@@ -162,8 +162,8 @@ def best_groups(pairs, room):
               if all([group in numbers for group in groups])]
     if len(ranked) == 0:
         return None
-    number, _, groups = min(ranked)
-    return Groups(groups, number)
+    number, _, best = min(ranked)
+    return Groups(best, number)
 
 
 def all_cut_outs(pair, rows, columns):

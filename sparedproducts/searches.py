@@ -192,14 +192,10 @@ def search_lots(figures, tables):
 
 def search_program(pair):
     """The program of the first fewest lot of the tables of a pair."""
-    figures = pair.figures
-    check_small(figures)
-    if pair.rows != SIZE or pair.columns != SIZE:
-        raise NotSmall("table")
-    lot = search_lots(figures, (pair.first, pair.second))
+    lot = search_lots(pair.figures, (pair.first, pair.second))
     ends = list(zip(lot.numbers[0], lot.numbers[1]))
     products = [entry + numbers for entry, numbers in zip(lot.products, ends)]
-    return Program(figures, SIZE, SIZE, products)
+    return Program(pair.figures, SIZE, SIZE, products)
 
 
 def check_places(places, many):

@@ -99,6 +99,9 @@ class FormTest(unittest.TestCase):
                   given[:3] + ((("product", 0, 2), ("by", 0, 1)), (3, None))]
         for other in others:
             self.assertFalse(one == Code(*other))
+        sizes = [Code(figures, rows, columns, (), (None, None)) for rows, columns in ((1, 1), (1, 2), (2, 1), (2, 2))]
+        for at, other in enumerate(sizes):
+            self.assertEqual([kept == other for kept in sizes], [place == at for place in range(4)])
         for other in (None, 1, given, (figures, 2, 1), code_pair(one), program_of(one), "code"):
             self.assertFalse(one == other)
 

@@ -277,7 +277,7 @@ def no_goals(given):
     return [None, (), [], "one only", 3, {}, ("one only", 1), ("at most",), ("at most", -1), ("at most", True),
             ("at most", None), ("at most", 1.0), ("at most", "1"), ("at most", (1,)), ("at most", 1, 1), ("right",),
             ("right", None), ("right", given), ("right", program, 1), (None,), ("only one",), ("At most", 1), (1, 1),
-            (("one only",),), (["at most"], 1), ("right", program.products), program, ("at least", 1)]
+            (("one only",),), (["at most"], 1), ("right", program.products), program, ("at least", 1), ("wrong", program), (None, program)]
 
 
 def met_by_hand(given, goal):

@@ -89,6 +89,9 @@ class MakingTest(unittest.TestCase):
         self.assertTrue(one != Program(Figures(5), 1, 1, [entry]))
         self.assertTrue(Program(figures, 1, 2, ()) != Program(figures, 2, 1, ()))
         self.assertTrue(Program(figures, 1, 2, ()) != Program(figures, 1, 1, ()))
+        none = [Program(Figures(3), rows, columns, ()) for rows, columns in ((1, 1), (1, 2), (2, 1), (2, 2))]
+        for at, other in enumerate(none):
+            self.assertEqual([kept == other for kept in none], [place == at for place in range(4)])
         self.assertFalse(one == (entry,))
         self.assertFalse(one == None)  # noqa: E711
 

@@ -293,6 +293,10 @@ class SharedTest(unittest.TestCase):
                     self.assertEqual(raised(exchanged_program, program, 0, idle, side), ("NotShared", ()))
                     self.assertEqual(raised(exchanged_program, program, idle, 0, side), ("NotShared", ()))
             self.assertEqual(raised(exchanged_program, program, False, 1, "right"), ("NotShared", ()))
+            # Whatever they share, a word that is no side is none.
+            alike = Program(figures, 2, 1, [program.products[0]] * 2)
+            for side in ("answer", "both", "", None, 2, ["left"]):
+                self.assertEqual(raised(exchanged_program, alike, 0, 1, side), ("NotShared", ()))
             for _ in range(6):
                 other = any_program(figures, draw)
                 shared = set(all_shared(other))
